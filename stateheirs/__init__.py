@@ -1,0 +1,1 @@
+"""Parted, joined, followed: states, their treaties and what they owe."""

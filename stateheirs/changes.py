@@ -1,30 +1,13 @@
-"""The calls that change the record: each gives back the numbers that it answers."""
+"""The start, and the calls that are changes: each gives back the numbers that it answers."""
 
+from stateheirs.limits import MOST_OWED, wrong_mode, wrong_parts, wrong_start, wrong_units
 from stateheirs.record import how_many, is_in, with_one, without_one
 from stateheirs.refusals import BOUND_ALREADY, NO_MORE_STATES, NOT_SO, OWES_LESS
 from stateheirs.refusals import THERE_IS_NONE, TOO_MUCH_OWED, WRONG_NUMBER
 
-MOST_AT_START = 4
-MOST_TREATIES = 8
-MOST_UNITS = 1000000
-MOST_OWED = 10000000
-MOST_PARTS = 9
-
-
-def wrong_units(x):
-    return x < 1 or x > MOST_UNITS
-
-
-def wrong_mode(mode):
-    return mode > 1
-
-
-def wrong_parts(p, q):
-    return p > MOST_PARTS or q > MOST_PARTS or p + q == 0
-
 
 def su_start(record, n, t):
-    if n < 1 or n > MOST_AT_START or t < 1 or t > MOST_TREATIES:
+    if wrong_start(n, t):
         return [WRONG_NUMBER]
     record.begin(n, t)
     return [0]
@@ -90,7 +73,7 @@ def su_join(record, i, j, mode):
     if i == j or wrong_mode(mode):
         return [WRONG_NUMBER]
     record.take_up(i, j, mode)
-    return [record.count_there()]
+    return [how_many(record.who_is_there())]
 
 
 def su_follow(record, i, t):

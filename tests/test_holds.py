@@ -1,92 +1,39 @@
-"""What holds, along many lists of calls: each is made by a fixed rule, so every run is the same."""
+"""What holds, along many lists of changes: seen from outside behind every call."""
 
 import unittest
 
-from tests.support import ALL_STATES, CallsTest, picture, run
+from tests.support import ALL_STATES, ALL_TREATIES, CallsTest, members, picture, run, told
+from tests.walks import walk_of_changes
 
-STEPS = 120
-WALKS = 90
-FAR = (12, 31, 4294967295)
-
-
-class Numbers:
-    """A plain row of numbers that looks without order."""
-
-    def __init__(self, seed):
-        self.seed = seed * 7919 + 17
-        # Some lists owe, some part so much that the most there may be is reached.
-        self.greed = seed % 4 * 8
-        self.strife = seed % 3 * 3
-
-    def below(self, top):
-        self.seed = (self.seed * 6364136223846793005 + 1442695040888963407) % 2 ** 64
-        return (self.seed >> 33) % top
-
-    def one_of(self, row):
-        return row[self.below(len(row))]
-
-    def state(self):
-        return self.below(12) if self.below(30) else self.one_of(FAR)
-
-    def early_state(self):
-        return self.below(6) if self.below(3) else self.state()
-
-    def treaty(self):
-        return self.below(4) if self.below(12) else self.one_of((4, 7, 8, 4294967295))
-
-    def mode(self):
-        return self.below(2) if self.below(12) else 2
-
-    def parts(self):
-        return self.below(11)
-
-    def units(self):
-        return self.one_of((0, 1, 3, 10, 99, 12345, 400000, 1000000, 1000001) + (1000000,) * self.greed)
-
-    def change(self):
-        names = ("sign", "sign", "leave", "follow", "follow", "owe", "owe", "pay", "part", "join")
-        name = self.one_of(names + ("part",) * self.strife)
-        i = self.early_state()
-        if name in ("sign", "leave", "follow"):
-            return (name, i, self.treaty())
-        if name in ("owe", "pay"):
-            return (name, i, self.units())
-        if name == "part":
-            return (name, i, self.mode(), self.parts(), self.parts())
-        return (name, i, self.early_state(), self.mode())
+STEPS = 110
+WALKS = 50
 
 
 class Seen:
     """What is seen from outside at one moment: kept apart from how the program keeps it."""
 
     def __init__(self, rows):
-        self.bound = {}
-        self.may_follow = {}
-        self.owes = {}
-        for i in ALL_STATES:
-            if rows[i] != [-2]:
-                self.bound[i] = members(rows[i][1])
-                self.may_follow[i] = members(rows[i][2])
-                self.owes[i] = rows[12 + i][0]
-        self.who = [members(row[1]) if row != [-2] else None for row in rows[24:32]]
         self.rows = rows
+        self.there = [i for i in ALL_STATES if rows["debt", i] != [-2]]
+        self.ever = [i for i in ALL_STATES if rows["from", i] != [-2]]
+        self.bound = {i: members(rows["treaties", i][1]) for i in self.there}
+        self.may_follow = {i: members(rows["treaties", i][2]) for i in self.there}
+        self.owes = {i: rows["debt", i][0] for i in self.there}
+        self.parted_from = {i: rows["from", i][0] - 1 for i in self.ever}
+        self.taken_by = {i: rows["from", i][1] - 1 for i in self.ever}
+        self.who = {t: members(rows["bound", t][1]) for t in ALL_TREATIES if rows["bound", t] != [-2]}
 
-    def common(self, i, j):
-        return self.rows[32 + 12 * i + j]
+    def line(self, i):
+        """Walked along what su_from tells."""
+        line = [i]
+        while self.parted_from[line[-1]] >= 0:
+            line.append(self.parted_from[line[-1]])
+        return line
 
-
-def members(many):
-    return {k for k in range(32) if many >> k & 1}
-
-
-def told(some):
-    return sum(2 ** k for k in some)
-
-
-def walk(seed):
-    numbers = Numbers(seed)
-    calls = [("start", 1 + numbers.below(4), 1 + numbers.below(8))]
-    return calls + [numbers.change() for step in range(STEPS)]
+    def end(self, i):
+        while self.taken_by[i] >= 0:
+            i = self.taken_by[i]
+        return i
 
 
 def moments(calls):
@@ -98,7 +45,11 @@ def moments(calls):
 class WalkTest(unittest.TestCase):
     @classmethod
     def setUpClass(cls):
-        cls.walks = [moments(walk(seed)) for seed in range(WALKS)]
+        cls.walks = [moments(walk_of_changes(seed, STEPS)) for seed in range(WALKS)]
+
+    @classmethod
+    def tearDownClass(cls):
+        cls.walks = []
 
     def steps(self):
         """(seen ahead, call, answer, seen behind) of every change that isn't refused."""
@@ -129,6 +80,7 @@ class WalkTest(unittest.TestCase):
             made = {"owe": 1, "pay": -1}.get(call[0], 0) * call[2]
             self.assertEqual(sum(after.owes.values()), sum(before.owes.values()) + made, call)
             self.assertLessEqual(sum(after.owes.values()), 10000000)
+            self.assertEqual(after.rows["total",], [sum(after.owes.values()), len(after.there)])
 
     def test_nobody_is_bound_unasked(self):
         for before, call, answer, after in self.steps():
@@ -173,38 +125,83 @@ class WalkTest(unittest.TestCase):
 
     def test_who_is_gone_is_bound_by_nothing_and_stays_gone(self):
         for before, call, answer, after in self.steps():
-            for who in after.who:
-                if who is not None:
-                    self.assertLessEqual(who, set(after.bound))
+            for who in after.who.values():
+                self.assertLessEqual(who, set(after.there))
             if call[0] != "part":
-                self.assertLessEqual(set(after.bound), set(before.bound))
+                self.assertLessEqual(set(after.there), set(before.there))
 
     def test_bound_told_from_either_side(self):
         for before, call, answer, after in self.steps():
-            for t, who in enumerate(after.who):
-                if who is not None:
-                    self.assertEqual(who, {i for i in after.bound if t in after.bound[i]})
+            for t, who in after.who.items():
+                self.assertEqual(who, {i for i in after.there if t in after.bound[i]})
+                self.assertEqual(after.rows["whole", t], [1 if who == set(after.there) else 0])
 
     def test_in_common_the_same_of_either(self):
         for before, call, answer, after in self.steps():
-            for i in after.bound:
-                for j in after.bound:
+            for i in after.there:
+                for j in after.there:
                     both = after.bound[i] & after.bound[j]
-                    self.assertEqual(after.common(i, j), [-22] if i == j else [len(both), told(both)])
+                    self.assertEqual(after.rows["common", i, j], [-22] if i == j else [len(both), told(both)])
+
+    def test_could_and_would(self):
+        for before, call, answer, after in self.steps():
+            for i in after.there:
+                could = after.may_follow[i] - after.bound[i]
+                self.assertEqual(after.rows["could", i], [len(could), told(could)])
+                self.assertEqual(after.rows["would", i, 2, 5],
+                                 [after.owes[i] * 2 // 7, after.owes[i] - after.owes[i] * 2 // 7])
+
+    def test_whence_and_whither(self):
+        """Only parting tells of whom a state parted, only joining who took it up; neither is told anew."""
+        for before, call, answer, after in self.steps():
+            parted_from, taken_by = dict(before.parted_from), dict(before.taken_by)
+            if call[0] == "part":
+                parted_from[answer[0]] = call[1]
+                taken_by[answer[0]] = -1
+            if call[0] == "join":
+                taken_by[call[2]] = call[1]
+            self.assertEqual((after.parted_from, after.taken_by), (parted_from, taken_by), call)
+            self.assertEqual(after.there, [i for i in after.ever if taken_by[i] < 0])
+
+    def test_each_line_has_one_beginning(self):
+        for before, call, answer, after in self.steps():
+            begun = [i for i in after.ever if after.parted_from[i] < 0]
+            for i in after.ever:
+                line = after.line(i)
+                self.assertEqual(after.rows["line", i], [len(line), told(line)])
+                self.assertEqual([one for one in line if one in begun], line[-1:])
+                for j in after.ever:
+                    self.assertEqual(after.rows["kin", i, j], [1 if line[-1] == after.line(j)[-1] else 0])
+
+    def test_always_an_heir(self):
+        for before, call, answer, after in self.steps():
+            for i in after.ever:
+                heirs = {after.end(one) for one in after.ever if i in after.line(one)}
+                self.assertEqual(after.rows["heirs", i], [len(heirs), told(heirs)])
+                self.assertGreater(len(heirs), 0)
+                self.assertLessEqual(heirs, set(after.there))
+
+    def test_state_tells_all(self):
+        for moment in self.walks:
+            made = 0
+            for call, answer, after in moment:
+                made += 1 if call[0] != "start" and answer[0] >= 0 else 0
+                self.assertEqual(after.rows["state",],
+                                 [len(after.ever), moment[0][0][2], told(after.there), min(made, 20), 0])
 
 
 class PartedAndJoinedAgainTest(CallsTest):
     def test_bound_and_owing_as_before(self):
         for seed in range(60):
-            calls = walk(seed)[:20]
+            calls = walk_of_changes(seed, 19)
             rows = picture(calls)
             for i in ALL_STATES:
-                if rows[i] == [-2]:
+                if rows["treaties", i] == [-2]:
                     continue
                 for mode, p, q in ((0, 1, 2), (1, 9, 7), (0, 0, 3), (1, 3, 0)):
                     parted = run(calls + [("part", i, mode, p, q)])[-1][0]
                     self.assertGreater(parted, 0)
                     behind = calls + [("part", i, mode, p, q), ("join", i, parted, 1)]
                     after = run(behind + [("treaties", i), ("debt", i)])[-2:]
-                    self.assertEqual(after[0][:2], rows[i][:2])
-                    self.assertEqual(after[1], rows[12 + i])
+                    self.assertEqual(after[0][:2], rows["treaties", i][:2])
+                    self.assertEqual(after[1], rows["debt", i])

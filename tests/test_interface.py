@@ -5,16 +5,49 @@ import unittest
 from stateheirs.states import answers
 from tests.support import flat
 
-# One call of every number, by the document's own numbers.
-WHOLE = [0, 2, 3, 1, 0, 1, 1, 1, 1, 3, 0, 7, 4, 0, 2, 5, 0, 0, 1, 2, 7, 2, 1, 8, 2, 9, 1, 10, 0, 1, 11, 2,
-         2, 0, 1, 6, 1, 2, 1, 11, 2, 8, 1]
-WHOLE_ANSWERS = [1, 0, 1, 1, 1, 1, 1, 7, 1, 5, 1, 2, 1, 1, 3, 1, 2, 2, 2, 3, 7, 2, 1, 2, 1, 4,
-                 1, 0, 1, 2, 1, -2, 3, 1, 2, 2]
+# One call of every number at least, by the document's own numbers, and what each answers, with how many ahead.
+EACH = [
+    ([0, 2, 3], [1, 0]),
+    ([1, 0, 1], [1, 1]),
+    ([1, 1, 1], [1, 1]),
+    ([17, 1], [1, 1]),
+    ([3, 0, 7], [1, 7]),
+    ([4, 0, 2], [1, 5]),
+    ([19, 0, 1, 2], [2, 1, 4]),
+    ([5, 0, 0, 1, 2], [1, 2]),
+    ([18, 2], [2, 1, 2]),
+    ([7, 2, 1], [1, 1]),
+    ([8, 2], [3, 1, 2, 2]),
+    ([9, 1], [2, 3, 7]),
+    ([10, 0, 1], [2, 1, 2]),
+    ([11, 2], [1, 4]),
+    ([12], [2, 5, 3]),
+    ([2, 0, 1], [1, 0]),
+    ([6, 1, 2, 1], [1, 2]),
+    ([11, 2], [1, -2]),
+    ([8, 1], [3, 1, 2, 2]),
+    ([13, 2], [2, 1, 2]),
+    ([14, 2], [2, 2, 5]),
+    ([15, 0], [2, 2, 3]),
+    ([16, 2, 0], [1, 1]),
+    ([16, 2, 1], [1, 0]),
+    ([22], [5, 3, 3, 3, 8, 0]),
+    ([20], [1, 7]),
+    ([20], [1, 6]),
+    ([22], [5, 3, 3, 7, 6, 2]),
+    ([21], [1, 1]),
+    ([22], [5, 3, 3, 7, 7, 1]),
+]
+WHOLE = [number for call, answer in EACH for number in call]
+WHOLE_ANSWERS = [number for call, answer in EACH for number in answer]
 
 
 class AnswersTest(unittest.TestCase):
     def test_numbers_of_the_calls_and_form_of_the_answers(self):
-        self.assertEqual(answers(WHOLE), WHOLE_ANSWERS)
+        self.assertEqual({call[0] for call, answer in EACH}, set(range(23)))
+        for k in range(1, len(EACH) + 1):
+            self.assertEqual(answers([number for call, answer in EACH[:k] for number in call]),
+                             [number for call, answer in EACH[:k] for number in answer], EACH[k - 1])
 
     def test_kinds(self):
         told = answers(WHOLE)

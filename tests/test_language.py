@@ -83,6 +83,40 @@ class LanguageTest(unittest.TestCase):
             self.assertTrue((PACKAGE / (node.module.split(".")[1] + ".py")).is_file(), name)
             self.assertTrue(all(one.asname is None and one.name != "*" for one in node.names), name)
 
+    def test_no_files_draw_from_one_another(self):
+        drawn = {name[:-3]: {node.module.split(".")[1] for node in ast.walk(tree) if isinstance(node, ast.ImportFrom)}
+                 for name, tree in trees()}
+        for step in drawn:
+            drawn = {name: some.union(*(drawn[one] for one in some)) for name, some in drawn.items()}
+        for name, some in drawn.items():
+            self.assertNotIn(name, some)
+
+    def test_imports_are_read_and_come_from_where_they_are_made(self):
+        made = {name[:-3]: {one for node in tree.body for part in getattr(node, "targets", [node])
+                            for one in bound_names(part)} for name, tree in trees()}
+        for name, tree in trees():
+            read = {node.id for node in ast.walk(tree) if isinstance(node, ast.Name)}
+            for node in tree.body:
+                if isinstance(node, ast.ImportFrom):
+                    some = {one.name for one in node.names}
+                    self.assertLessEqual(some, made[node.module.split(".")[1]], name)
+                    self.assertLessEqual(some, read, name)
+
+    def test_locals_are_not_called_like_classes_or_imports(self):
+        for name, tree in trees():
+            taken = {node.name for node in tree.body if isinstance(node, ast.ClassDef)}
+            taken |= {one.name for node in tree.body if isinstance(node, ast.ImportFrom) for one in node.names}
+            inner = {one for node in ast.walk(tree) if isinstance(node, (ast.arg, ast.Name))
+                     for one in bound_names(node)}
+            self.assertEqual(inner & taken, set(), name)
+
+    def test_no_name_is_a_method_and_a_value(self):
+        methods = {part.name for name, node in nodes(ast.ClassDef) for part in node.body
+                   if isinstance(part, ast.FunctionDef)}
+        kept = {node.attr for name, node in nodes(ast.Attribute) if isinstance(node.ctx, ast.Store)}
+        self.assertEqual(methods & kept, set())
+        self.assertEqual((methods | kept) & set(METHODS), set())
+
     def test_statements_and_values(self):
         for name, node in nodes(ast.stmt):
             self.assertIsInstance(node, STATEMENTS, (name, node.lineno))

@@ -1,6 +1,6 @@
-"""Point 4: su_treaties, su_bound, su_common, su_debt."""
+"""Point 4: su_treaties, su_bound, su_common, su_could, su_whole, su_debt, su_total."""
 
-from tests.support import ALL_TREATIES, CallsTest, HUGE, picture, picture_calls, run
+from tests.support import ALL_TREATIES, CallsTest, HUGE, last, picture, picture_calls, run
 
 ALL_BOUND = [("start", 4, 8)] + [("sign", i, t) for i in range(4) for t in ALL_TREATIES]
 SOME = [("start", 4, 8), ("sign", 0, 1), ("sign", 0, 7), ("sign", 2, 1), ("sign", 3, 7), ("sign", 3, 1),
@@ -85,8 +85,112 @@ class DebtTest(CallsTest):
         self.answers_last([("start", 2, 1), ("owe", 1, 3), ("join", 0, 1, 0), ("debt", 1)], [-2])
 
 
+class TotalTest(CallsTest):
+    def test_none_some_all(self):
+        self.answers_last([("start", 1, 1), ("total",)], [0, 1])
+        self.answers_last([("start", 4, 8), ("total",)], [0, 4])
+        self.answers_last([("start", 3, 1), ("owe", 0, 3), ("owe", 2, 40), ("total",)], [43, 3])
+        self.answers_last([("start", 2, 1)] + [("owe", 1, 1000000)] * 10 + [("total",)], [10000000, 2])
+
+    def test_states_that_parted(self):
+        parted = [("start", 1, 1), ("owe", 0, 10), ("part", 0, 0, 1, 2)]
+        self.answers_last(parted + [("total",)], [10, 2])
+        self.answers_last(parted + [("part", 1, 1, 0, 1), ("owe", 2, 5), ("total",)], [15, 3])
+        self.answers_last(parted + [("part", 0, 0, 0, 1)] * 10 + [("total",)], [10, 12])
+
+    def test_states_that_are_gone(self):
+        joined = [("start", 4, 1), ("owe", 0, 3), ("owe", 1, 40), ("owe", 2, 500), ("join", 0, 1, 0)]
+        self.answers_last(joined + [("total",)], [543, 3])
+        self.answers_last(joined + [("join", 3, 2, 1), ("join", 0, 3, 1), ("pay", 0, 500), ("total",)], [43, 1])
+
+
+class WholeTest(CallsTest):
+    def test_all_some_none(self):
+        for t in ALL_TREATIES:
+            self.answers_last(ALL_BOUND + [("whole", t)], [1])
+        self.answers_last(SOME + [("whole", 1)], [0])
+        self.answers_last(SOME + [("whole", 4)], [0])
+        self.answers_last(SOME + [("whole", 0)], [0])
+
+    def test_all_but_one(self):
+        for i in range(4):
+            self.answers_last(ALL_BOUND + [("leave", i, 3), ("whole", 3)], [0])
+            self.answers_last(ALL_BOUND + [("leave", i, 3), ("whole", 2)], [1])
+
+    def test_one_alone(self):
+        self.answers_last([("start", 1, 1), ("whole", 0)], [0])
+        self.answers_last([("start", 1, 1), ("sign", 0, 0), ("whole", 0)], [1])
+
+    def test_only_one_that_is_gone_is_not(self):
+        begun = [("start", 3, 2), ("sign", 0, 1), ("sign", 2, 1)]
+        self.answers_last(begun + [("whole", 1)], [0])
+        for mode in (0, 1):
+            self.answers_last(begun + [("join", 0, 1, mode), ("whole", 1)], [1])
+            self.answers_last(begun + [("join", 1, 0, mode), ("whole", 1)], [mode])
+
+    def test_only_one_that_is_gone_was(self):
+        begun = [("start", 2, 1), ("sign", 1, 0)]
+        self.answers_last(begun + [("join", 0, 1, 0), ("whole", 0)], [0])
+        self.answers_last(begun + [("join", 0, 1, 1), ("whole", 0)], [1])
+
+    def test_the_new_one_counts(self):
+        begun = [("start", 1, 1), ("sign", 0, 0)]
+        self.answers_last(begun + [("part", 0, 0, 1, 1), ("whole", 0)], [0])
+        self.answers_last(begun + [("part", 0, 1, 1, 1), ("whole", 0)], [1])
+        self.answers_last(begun + [("part", 0, 0, 1, 1), ("follow", 1, 0), ("whole", 0)], [1])
+
+    def test_all_twelve(self):
+        twelve = [("start", 1, 1), ("sign", 0, 0)] + [("part", 0, 1, 1, 1)] * 11
+        self.answers_last(twelve + [("whole", 0)], [1])
+        self.answers_last(twelve + [("leave", 11, 0), ("whole", 0)], [0])
+
+    def test_no_such_treaty(self):
+        for t in (8, 31, 32, HUGE):
+            self.refuses(ALL_BOUND, ("whole", t), -2)
+        self.refuses([("start", 1, 1), ("sign", 0, 0)], ("whole", 1), -2)
+
+
+class CouldTest(CallsTest):
+    def test_may_follow_nothing(self):
+        self.answers_last([("start", 1, 8), ("could", 0)], [0, 0])
+        self.answers_last(SOME + [("could", 3)], [0, 0])
+
+    def test_bound_by_none_some_all_of_it(self):
+        parted = SOME + [("part", 3, 0, 1, 1)]
+        self.answers_last(parted + [("could", 4)], [3, 146])
+        self.answers_last(parted + [("follow", 4, 4), ("could", 4)], [2, 130])
+        self.answers_last(parted + [("sign", 4, 1), ("could", 4)], [2, 144])
+        self.answers_last(parted + [("follow", 4, t) for t in (1, 4, 7)] + [("could", 4)], [0, 0])
+        self.answers_last(SOME + [("part", 3, 1, 1, 1), ("could", 4)], [0, 0])
+
+    def test_bound_by_what_it_may_not_follow(self):
+        self.answers_last(SOME + [("part", 3, 0, 1, 1), ("sign", 4, 0), ("could", 4)], [3, 146])
+
+    def test_left_again(self):
+        self.answers_last(SOME + [("part", 3, 1, 1, 1), ("leave", 4, 7), ("could", 4)], [1, 128])
+
+    def test_what_was_taken_up(self):
+        self.answers_last(SOME + [("join", 0, 3, 0), ("could", 0)], [1, 16])
+        self.answers_last(SOME + [("join", 0, 3, 1), ("could", 0)], [0, 0])
+        self.answers_last(SOME + [("join", 1, 3, 0), ("could", 1)], [3, 146])
+
+    def test_all_eight(self):
+        self.answers_last(ALL_BOUND + [("part", 0, 0, 1, 1), ("could", 4)], [8, 255])
+
+    def test_just_what_follow_takes(self):
+        begun = SOME + [("part", 3, 0, 1, 1), ("follow", 4, 7), ("sign", 4, 0)]
+        could = last(begun + [("could", 4)])[1]
+        for t in ALL_TREATIES:
+            self.assertEqual(last(begun + [("follow", 4, t)])[0] >= 0, could >> t & 1 == 1, t)
+
+    def test_gone_or_never_there(self):
+        gone = SOME + [("part", 3, 0, 1, 1), ("join", 0, 4, 0)]
+        for i in (4, 5, 12, 32, HUGE):
+            self.refuses(gone, ("could", i), -2)
+
+
 class AskingTest(CallsTest):
     def test_asking_changes_nothing(self):
-        calls = SOME + [("owe", 0, 9), ("part", 0, 0, 1, 2), ("join", 1, 3, 0)]
+        calls = SOME + [("owe", 0, 9), ("part", 0, 0, 1, 2), ("join", 1, 3, 0), ("sign", 1, 0), ("back",)]
         self.assertEqual(picture(calls), picture(calls + picture_calls()))
         self.assertEqual(run(calls + [("debt", 0), ("debt", 0)])[-2:], [[3], [3]])

@@ -57,13 +57,19 @@ class StartTest(CallsTest):
 
 
 def calls_of_state(i):
-    """Every call that names state i, right but for that, beside state 0 and treaty 0."""
+    """Every call that names state i, and is refused if it is gone: right but for that, beside state 0 and treaty 0."""
     return [("sign", i, 0), ("leave", i, 0), ("owe", i, 1), ("pay", i, 1), ("part", i, 0, 1, 1), ("join", i, 0, 0),
-            ("join", 0, i, 0), ("follow", i, 0), ("treaties", i), ("common", i, 0), ("common", 0, i), ("debt", i)]
+            ("join", 0, i, 0), ("follow", i, 0), ("treaties", i), ("common", i, 0), ("common", 0, i), ("debt", i),
+            ("could", i), ("would", i, 1, 1)]
+
+
+def calls_of_descent(i):
+    """Every call that names state i, and is answered if it is gone."""
+    return [("from", i), ("line", i), ("heirs", i), ("kin", i, 0), ("kin", 0, i), ("kin", i, i)]
 
 
 def calls_of_treaty(t):
-    return [("sign", 0, t), ("leave", 0, t), ("follow", 0, t), ("bound", t)]
+    return [("sign", 0, t), ("leave", 0, t), ("follow", 0, t), ("bound", t), ("whole", t)]
 
 
 def wrong_calls_of_state(i):
@@ -71,24 +77,26 @@ def wrong_calls_of_state(i):
     return [("sign", i, HUGE), ("leave", i, 8), ("owe", i, 0), ("owe", i, 1000001), ("pay", i, 0), ("pay", i, HUGE),
             ("part", i, 2, 1, 1), ("part", i, 0, 10, 1), ("part", i, 0, 1, 10), ("part", i, HUGE, 0, 0),
             ("join", i, i, 0), ("join", i, 0, 2), ("join", 0, i, HUGE), ("join", i, HUGE, 0), ("follow", i, HUGE),
-            ("common", i, i), ("common", i, HUGE)]
+            ("common", i, i), ("common", i, HUGE), ("would", i, 0, 0), ("would", i, 10, 1), ("would", i, 1, HUGE)]
 
 
 class ThereIsNoneTest(CallsTest):
     def test_state_that_never_was(self):
         for i in (2, 3, 11, 12, 31, 32, 64, HUGE - 1, HUGE):
-            for call in calls_of_state(i):
+            for call in calls_of_state(i) + calls_of_descent(i):
                 self.refuses([("start", 2, 3), ("sign", 0, 0), ("owe", 0, 5)], call, -2)
 
     def test_state_that_was_taken_up(self):
         taken = [("start", 3, 3), ("sign", 1, 0), ("owe", 1, 5), ("join", 0, 1, 1)]
         for call in calls_of_state(1):
             self.refuses(taken, call, -2)
+        for call in calls_of_descent(1):
+            self.assertGreaterEqual(last(taken + [call])[0], 0, call)
 
     def test_state_behind_a_parted_one(self):
         parted = [("start", 1, 1), ("part", 0, 0, 1, 1)]
         self.answers_last(parted + [("debt", 1)], [0])
-        for call in calls_of_state(2):
+        for call in calls_of_state(2) + calls_of_descent(2):
             self.refuses(parted, call, -2)
 
     def test_treaty_that_is_not_there(self):
@@ -111,4 +119,6 @@ class ThereIsNoneTest(CallsTest):
     def test_started_again_with_fewer(self):
         fewer = [("start", 4, 8), ("start", 1, 1)]
         self.assertEqual(last(fewer + [("debt", 1)]), [-2])
+        for call in calls_of_descent(1):
+            self.assertEqual(last(fewer + [call]), [-2], call)
         self.assertEqual(last(fewer + [("bound", 1)]), [-2])

@@ -3,11 +3,14 @@
 import unittest
 
 from stateheirs.states import answers
-from tests.support import CHANGES, NAMES, but_for_changes, flat, picture, run
+from tests.seen import Seen, SeenTest
+from tests.support import CHANGES, NAMES, but_for_changes, flat, picture, picture_calls, run
 from tests.walks import Standing, walk_of_all
 
 LISTS = 16
 LONG = 1000
+# Behind so many calls there is just room for all that can be asked.
+ROOM = LONG - len(picture_calls())
 
 
 def asked_alone(standing, question):
@@ -15,7 +18,7 @@ def asked_alone(standing, question):
     return run(standing.calls + [question])[-1]
 
 
-class LongListsTest(unittest.TestCase):
+class LongListsTest(SeenTest):
     @classmethod
     def setUpClass(cls):
         cls.lists = [walk_of_all(seed, LONG) for seed in range(LISTS)]
@@ -62,7 +65,7 @@ class LongListsTest(unittest.TestCase):
         """The whole picture, at places all along the lists."""
         for calls, rows in zip(self.lists, self.rows):
             standing = Standing()
-            for k, call in enumerate(calls[:600]):
+            for k, call in enumerate(calls[:ROOM]):
                 standing.see(call, rows[k])
                 if call[0] in ("back", "again") and rows[k][0] >= 0 and k % 3 == 0:
                     self.assertEqual(but_for_changes(picture(calls[:k + 1])), but_for_changes(picture(standing.calls)))
@@ -73,6 +76,28 @@ class LongListsTest(unittest.TestCase):
             if call[0] == "total":
                 wanted = sum({"owe": 1, "pay": -1}.get(one[0], 0) * one[2] for one in standing.calls)
                 self.assertEqual(answer[0], wanted)
+
+    def test_holds_at_places_all_along(self):
+        for calls in self.lists:
+            for count in list(range(10, ROOM, 40)) + [ROOM]:
+                self.check_moment(Seen(picture(calls[:count])))
+
+    def test_each_change_does_only_what_it_says(self):
+        """Behind whatever was taken back or done again ahead of it."""
+        checked = set()
+        for calls, rows in zip(self.lists, self.rows):
+            for k in range(ROOM):
+                if calls[k][0] in CHANGES and rows[k][0] >= 0 and k % 2 == 0:
+                    before, after = Seen(picture(calls[:k])), Seen(picture(calls[:k + 1]))
+                    self.check_nothing_lost(before, calls[k], after)
+                    self.check_nobody_is_bound_unasked(before, calls[k], rows[k], after)
+                    checked.add(calls[k][0])
+        self.assertEqual(checked, set(CHANGES))
+
+    def test_parted_and_joined_again(self):
+        for calls in self.lists:
+            for count in range(15, ROOM, 90):
+                self.check_parted_and_joined_again(calls[:count])
 
     def test_counted_by_what_stands(self):
         for standing, call, answer in self.steps():
